@@ -1,0 +1,1 @@
+"""Hallback: comings told back from whom the desks of a hall took."""
