@@ -3,20 +3,19 @@
 from hallback.errors import NoComer
 from hallback.halls import need_book, need_hall, need_rank, need_tick, need_written
 from hallback.kinds import is_whole
-from hallback.stairs import all_stairs
+from hallback.steps import steps_of
 from hallback.told import taken_by
 
 
 def came(hall, book, looks, rank, comer):
     """The earliest and the latest tick at which the comer comes, None where no comings do."""
-    need_written(hall, book, looks)
+    turns = need_written(hall, book, looks)
     need_rank(hall, rank)
-    _need_comer(comer)
-    every = all_stairs(hall, book, looks)
-    if every is None:
+    need_comer(comer)
+    steps = steps_of(hall, turns, looks, rank)
+    if steps is None:
         return None
-    earliest = _first_tick([high for _, high in every[rank]], comer)
-    return earliest, _first_tick([low for low, _ in every[rank]], comer)
+    return first_tick([high for _, high in steps], comer), first_tick([low for low, _ in steps], comer)
 
 
 def taken(hall, book, rank, comer):
@@ -24,51 +23,52 @@ def taken(hall, book, rank, comer):
     need_hall(hall)
     need_book(hall, book)
     need_rank(hall, rank)
-    _need_comer(comer)
-    return _first_tick(taken_by(book, rank), comer)
+    need_comer(comer)
+    return first_tick(taken_by(book, rank), comer)
 
 
 def waits(hall, book, looks, rank):
     """The least and the most ticks that all of the rank who were taken waited, None where no comings do."""
-    need_written(hall, book, looks)
+    turns = need_written(hall, book, looks)
     need_rank(hall, rank)
-    every = all_stairs(hall, book, looks)
-    if every is None:
+    steps = steps_of(hall, turns, looks, rank)
+    if steps is None:
         return None
     by = taken_by(book, rank)
     # Who came behind the last one who was taken waits on, and doesn't count.
-    least = sum([min(low, by[-1]) - gone for (low, _), gone in zip(every[rank], by)])
-    return least, sum([min(high, by[-1]) - gone for (_, high), gone in zip(every[rank], by)])
+    least = sum([min(low, by[-1]) - gone for (low, _), gone in zip(steps, by)])
+    return least, sum([min(high, by[-1]) - gone for (_, high), gone in zip(steps, by)])
 
 
 def waiting(hall, book, looks, rank, tick):
     """How many of the rank wait behind the tick's takings, at least and at most, None where no comings do."""
-    need_written(hall, book, looks)
+    turns = need_written(hall, book, looks)
     need_rank(hall, rank)
     need_tick(book, tick)
-    every = all_stairs(hall, book, looks)
-    return None if every is None else _left(every[rank], book, rank)[tick]
+    steps = steps_of(hall, turns, looks, rank)
+    return None if steps is None else _left(steps, book, rank)[tick]
 
 
 def because(hall, book, looks, rank, other):
     """How many of the rank wait behind each taking of the other, added up, None where no comings do."""
-    need_written(hall, book, looks)
+    turns = need_written(hall, book, looks)
     need_rank(hall, rank)
     need_rank(hall, other)
-    every = all_stairs(hall, book, looks)
-    if every is None:
+    steps = steps_of(hall, turns, looks, rank)
+    if steps is None:
         return None
-    left = _left(every[rank], book, rank)
+    left = _left(steps, book, rank)
     least = sum([low * row.count(other) for (low, _), row in zip(left, book)])
     return least, sum([high * row.count(other) for (_, high), row in zip(left, book)])
 
 
-def _need_comer(thing):
+def need_comer(thing):
+    """Refuse what is no comer."""
     if not is_whole(thing) or thing < 1:
         raise NoComer("this is no comer")
 
 
-def _first_tick(by, comer):
+def first_tick(by, comer):
     """The first tick by which there are as many as the comer's number, None where there is none."""
     for tick, many in enumerate(by):
         if many >= comer:

@@ -1,8 +1,8 @@
 """Halls, books and looks: what is one, and the refusal of what is none."""
 
 from hallback.errors import NoBook, NoHall, NoLooks, NoRank, NoTick
-from hallback.kinds import is_from_to, is_rising, is_tuple, is_whole
-from hallback.turns import free_at_first, free_behind
+from hallback.kinds import are_rows, are_whole, is_from_to, is_rising, is_tuple
+from hallback.turns import turns_of
 
 RANKS_AT_MOST = 4
 COME_AT_MOST = 5
@@ -24,7 +24,7 @@ def is_hall(thing):
 def is_book(hall, thing):
     """Whether this is a book of the hall."""
     need_hall(hall)
-    return _is_book_of(hall, thing)
+    return all_turns(hall, thing) is not None
 
 
 def are_looks(hall, book, thing):
@@ -34,6 +34,21 @@ def are_looks(hall, book, thing):
     return _are_looks_of(hall, book, thing)
 
 
+def all_turns(hall, thing):
+    """Of each desk its turns, as the book tells them; None where this is no book of the hall."""
+    ranks, desks = hall
+    if not are_rows(thing, TICKS_AT_MOST, len(desks)):
+        return None
+    stays = [stay for _, stay in ranks]
+    found = []
+    for column, desk in zip(zip(*thing), desks):
+        turns = turns_of(stays, desk, column)
+        if turns is None:
+            return None
+        found.append(turns)
+    return found
+
+
 def need_hall(thing):
     """Refuse what is no hall."""
     if not is_hall(thing):
@@ -41,9 +56,11 @@ def need_hall(thing):
 
 
 def need_book(hall, thing):
-    """Refuse what is no book of the hall."""
-    if not _is_book_of(hall, thing):
+    """Refuse what is no book of the hall; of a book tell all turns."""
+    turns = all_turns(hall, thing)
+    if turns is None:
         raise NoBook("this is no book of the hall")
+    return turns
 
 
 def need_looks(hall, book, thing):
@@ -53,86 +70,58 @@ def need_looks(hall, book, thing):
 
 
 def need_written(hall, book, looks):
-    """Refuse what is no hall, no book of it or no looks of this, the first of them first."""
+    """Refuse what is no hall, no book of it or no looks of this, the first of them first; tell all turns."""
     need_hall(hall)
-    need_book(hall, book)
+    turns = need_book(hall, book)
     need_looks(hall, book, looks)
+    return turns
 
 
 def need_rank(hall, thing):
     """Refuse what is no rank of the hall."""
-    if not _is_rank(hall, thing):
+    if not is_from_to(thing, 0, len(hall[0]) - 1):
         raise NoRank("this is no rank of the hall")
 
 
 def need_tick(book, thing):
     """Refuse what is no tick of the book."""
-    if not _is_tick(book, thing):
+    if not is_from_to(thing, 0, len(book) - 1):
         raise NoTick("this is no tick of the book")
 
 
 def _are_ranks(thing):
-    return is_tuple(thing, 1, RANKS_AT_MOST) and all([_is_most_and_stay(pair) for pair in thing])
-
-
-def _is_most_and_stay(thing):
-    if not is_tuple(thing, 2, 2):
+    if not are_rows(thing, RANKS_AT_MOST, 2):
         return False
-    most, stay = thing
-    return is_from_to(most, 1, COME_AT_MOST) and is_from_to(stay, 1, STAY_AT_MOST)
-
-
-def _are_desks(thing, ranks):
-    return is_tuple(thing, 1, DESKS_AT_MOST) and all([_is_desk(desk, ranks) for desk in thing])
-
-
-def _is_desk(thing, ranks):
-    if not is_tuple(thing, 1, ranks):
-        return False
-    return all([is_from_to(rank, 0, ranks - 1) for rank in thing]) and is_rising(thing)
-
-
-def _is_rank(hall, thing):
-    return is_from_to(thing, 0, len(hall[0]) - 1)
-
-
-def _is_tick(book, thing):
-    return is_from_to(thing, 0, len(book) - 1)
-
-
-def _is_book_of(hall, thing):
-    if not is_tuple(thing, 1, TICKS_AT_MOST):
-        return False
-    free = free_at_first(hall)
-    for tick, row in enumerate(thing):
-        if not _is_row_of(hall, free, tick, row):
+    for pair in thing:
+        most, stay = pair
+        if not are_whole(pair) or not 1 <= most <= COME_AT_MOST or not 1 <= stay <= STAY_AT_MOST:
             return False
-        free = free_behind(hall, free, tick, row)
     return True
 
 
-def _is_row_of(hall, free, tick, thing):
-    desks = hall[1]
-    if not is_tuple(thing, len(desks), len(desks)):
+def _are_desks(thing, ranks):
+    if not is_tuple(thing, 1, DESKS_AT_MOST):
         return False
-    return all([_can_take(desk, at <= tick, one) for desk, at, one in zip(desks, free, thing)])
-
-
-def _can_take(desk, is_free, thing):
-    # A whole number first, since True would be found in a desk that takes rank 1.
-    return thing is None or is_free and is_whole(thing) and thing in desk
+    for desk in thing:
+        if not is_tuple(desk, 1, ranks) or not are_whole(desk):
+            return False
+        last = -1
+        for rank in desk:
+            if not last < rank < ranks:
+                return False
+            last = rank
+    return True
 
 
 def _are_looks_of(hall, book, thing):
     if not is_tuple(thing, 0, LOOKS_AT_MOST):
         return False
-    return all([_is_look(hall, book, look) for look in thing]) and is_rising(thing)
+    for look in thing:
+        if not is_tuple(look, 4, 4) or not are_whole(look) or not _is_look(hall, book, look):
+            return False
+    return is_rising(thing)
 
 
-def _is_look(hall, book, thing):
-    if not is_tuple(thing, 4, 4):
-        return False
-    tick, rank, least, most = thing
-    if not _is_tick(book, tick) or not _is_rank(hall, rank):
-        return False
-    return is_from_to(most, 0, LOOK_AT_MOST) and is_from_to(least, 0, most)
+def _is_look(hall, book, look):
+    tick, rank, least, most = look
+    return 0 <= tick < len(book) and 0 <= rank < len(hall[0]) and 0 <= least <= most <= LOOK_AT_MOST

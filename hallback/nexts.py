@@ -1,87 +1,86 @@
 """Nexts: whom the desks can take next, and the look that would tell most."""
 
 from hallback.halls import need_written
-from hallback.stairs import all_stairs
+from hallback.steps import all_steps
 from hallback.told import taken_by
-from hallback.turns import free_at_first, free_behind, row_taken
-from hallback.ways import all_ways, ways_on, ways_to
+from hallback.turns import free_from
+from hallback.ways import ways_on, ways_to, ways_within
 
 
 def nexts(hall, book, looks):
     """All rows that the next tick can have, in order, each with how many comings lead to it."""
-    need_written(hall, book, looks)
-    every = all_stairs(hall, book, looks)
+    turns = need_written(hall, book, looks)
+    every = all_steps(hall, turns, looks)
     if every is None:
         return []
-    free = _free_next(hall, book)
-    found = {}
-    for waiting, many in _waiting_next(hall, book, every):
-        row = row_taken(hall, free, len(book), waiting)
-        found[row] = found.get(row, 0) + many
-    return sorted(found.items(), key=_none_first)
+    waiting = [_waiting_next(hall, book, rank, steps) for rank, steps in enumerate(every)]
+    found = []
+    for row, emptied in _rows_next(hall, book):
+        many = 1
+        for rank, (just, more) in enumerate(waiting):
+            taken = row.count(rank)
+            many = many * (just[taken] if rank in emptied else more[taken])
+        if many > 0:
+            found.append((row, many))
+    return found
 
 
 def best_look(hall, book, looks):
     """The look by whose worst answer the fewest comings are left, and how many; None where none or one do."""
-    need_written(hall, book, looks)
-    every = all_stairs(hall, book, looks)
+    turns = need_written(hall, book, looks)
+    every = all_steps(hall, turns, looks)
     if every is None:
         return None
-    ways = [all_ways(steps, most) for steps, (most, _) in zip(every, hall[0])]
-    comings = _times(ways)
+    answers = [_worst_answers(steps, most) for steps, (most, _) in zip(every, hall[0])]
+    comings = 1
+    for many, _ in answers:
+        comings = comings * many
     if comings == 1:
         return None
-    worst = []
-    for rank, steps in enumerate(every):
-        others = comings // ways[rank]
-        for tick, many in enumerate(_worst_answers(steps, hall[0][rank][0])):
-            worst.append((many * others, tick, rank))
-    fewest, tick, rank = min(worst)
+    looked = []
+    for rank, (many, worst) in enumerate(answers):
+        looked += [(comings // many * left, tick, rank) for tick, left in enumerate(worst)]
+    fewest, tick, rank = min(looked)
     return tick, rank, fewest
 
 
-def _free_next(hall, book):
-    free = free_at_first(hall)
-    for tick, row in enumerate(book):
-        free = free_behind(hall, free, tick, row)
-    return free
-
-
-def _waiting_next(hall, book, every):
-    """Pairs: how many of each rank wait ahead of the next takings, and how many comings lead there."""
-    found = [((), 1)]
-    for rank, steps in enumerate(every):
-        gone = taken_by(book, rank)[-1]
-        by = _waiting_of(steps, hall[0][rank][0], gone, len(hall[1]))
-        found = [((*ahead, left), ways * more) for ahead, ways in found for left, more in by.items()]
+def _rows_next(hall, book):
+    """Pairs: a row that the next tick can have, in order, and the ranks of which nobody is left then."""
+    stays = [stay for _, stay in hall[0]]
+    found = [((), ())]
+    for desk, column in zip(hall[1], zip(*book)):
+        if free_from(stays, column) > len(book):
+            found = [((*row, None), emptied) for row, emptied in found]
+        else:
+            found = [longer for row, emptied in found for longer in _with_turn(row, emptied, desk)]
     return found
 
 
-def _waiting_of(steps, most, gone, desks):
-    """By how many of a rank wait ahead of the next takings: how many rows lead there."""
-    found = {}
-    for had_come, ways in ways_to(steps, most)[-1].items():
-        for come in range(most + 1):
-            # The desks take no more than one each, so more than that many make no difference.
-            left = min(had_come + come - gone, desks)
-            found[left] = found.get(left, 0) + ways
+def _with_turn(row, emptied, desk):
+    """The same pairs, with each turn more that the free desk can have: of whom it passes over nobody is left."""
+    found = [((*row, None), (*emptied, *desk))]
+    for place, one in enumerate(desk):
+        if one not in emptied:
+            found.append(((*row, one), (*emptied, *desk[:place])))
     return found
+
+
+def _waiting_next(hall, book, rank, steps):
+    """By how many of the rank wait ahead of the next takings, just so many and no fewer: how many rows lead there."""
+    most = hall[0][rank][0]
+    last = ways_to(steps, most)[-1]
+    # What the next tick can have in itself bars nothing: all that come then go on from the last tick.
+    ways = ways_within(last, most, 0, len(last) + most)
+    fewest = steps[-1][0] - taken_by(book, rank)[-1]
+    places = range(-fewest, len(hall[1]) + 1 - fewest)
+    just = [ways[place] if 0 <= place < len(ways) else 0 for place in places]
+    return just, [sum(ways[max(0, place):]) for place in places]
 
 
 def _worst_answers(steps, most):
-    """Of each tick how many rows of the rank are left by the worst answer."""
+    """How many rows of the rank there are, and of each tick how many are left by the worst answer."""
+    ahead = ways_to(steps, most)
     worst = []
-    for ahead, behind in zip(ways_to(steps, most), ways_on(steps, most)):
-        worst.append(max([ways * behind[many] for many, ways in ahead.items()]))
-    return worst
-
-
-def _times(numbers):
-    all_times = 1
-    for number in numbers:
-        all_times = all_times * number
-    return all_times
-
-
-def _none_first(pair):
-    return [-1 if rank is None else rank for rank in pair[0]]
+    for to, on in zip(ahead, ways_on(steps, most)):
+        worst.append(max([ways * more for ways, more in zip(to, on)]))
+    return sum(ahead[-1]), worst

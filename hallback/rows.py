@@ -3,43 +3,38 @@
 from hallback.errors import NoComings, NoNumber
 from hallback.halls import need_rank, need_written
 from hallback.kinds import is_from_to, is_tuple
-from hallback.stairs import all_stairs
-from hallback.ways import all_ways, ways_on
+from hallback.steps import all_steps, steps_of
+from hallback.ways import all_comings, all_ways, ways_on
 
 
 def how_many(hall, book, looks):
     """How many comings do."""
-    need_written(hall, book, looks)
-    every = all_stairs(hall, book, looks)
-    if every is None:
-        return 0
-    many = 1
-    for steps, (most, _) in zip(every, hall[0]):
-        many = many * all_ways(steps, most)
-    return many
+    turns = need_written(hall, book, looks)
+    every = all_steps(hall, turns, looks)
+    return 0 if every is None else all_comings(hall, every)
 
 
 def how_many_of(hall, book, looks, rank):
     """How many rows of comings of the rank are had in comings that do."""
-    need_written(hall, book, looks)
+    turns = need_written(hall, book, looks)
     need_rank(hall, rank)
-    every = all_stairs(hall, book, looks)
-    return 0 if every is None else all_ways(every[rank], hall[0][rank][0])
+    steps = steps_of(hall, turns, looks, rank)
+    return 0 if steps is None else all_ways(steps, hall[0][rank][0])
 
 
 def row_at(hall, book, looks, rank, number):
     """The row of the number."""
-    need_written(hall, book, looks)
+    turns = need_written(hall, book, looks)
     need_rank(hall, rank)
-    every = all_stairs(hall, book, looks)
-    most = hall[0][rank][0]
-    if every is None or not is_from_to(number, 0, all_ways(every[rank], most) - 1):
+    steps = steps_of(hall, turns, looks, rank)
+    ways = [[]] if steps is None else ways_on(steps, hall[0][rank][0])
+    if not is_from_to(number, 0, sum(ways[0]) - 1):
         raise NoNumber("this is no number of a row that is had")
     row = []
     had_come = 0
     left = number
-    for ways in ways_on(every[rank], most):
-        come, left = _come_and_left(ways, had_come, left)
+    for (low, _), behind in zip(steps, ways):
+        come, left = _come_and_left(behind, had_come - low, left)
         had_come += come
         row.append(come)
     return tuple(row)
@@ -47,25 +42,28 @@ def row_at(hall, book, looks, rank, number):
 
 def number_of(hall, book, looks, rank, row):
     """The number of the row."""
-    need_written(hall, book, looks)
+    turns = need_written(hall, book, looks)
     need_rank(hall, rank)
-    every = all_stairs(hall, book, looks)
+    steps = steps_of(hall, turns, looks, rank)
     most = hall[0][rank][0]
-    if every is None or not _is_had(every[rank], most, row):
+    if steps is None or not _is_had(steps, most, row):
         raise NoComings("this is no row of the rank that is had")
     number = 0
     had_come = 0
-    for ways, come in zip(ways_on(every[rank], most), row):
-        number += sum([ways.get(had_come + fewer, 0) for fewer in range(come)])
+    for (low, _), behind, come in zip(steps, ways_on(steps, most), row):
+        number += sum(behind[max(0, had_come - low):had_come - low + come])
         had_come += come
     return number
 
 
-def _come_and_left(ways, had_come, number):
-    """How many come at a tick in the row of the number, and the number among all that begin so."""
-    come = 0
-    while number >= ways.get(had_come + come, 0):
-        number -= ways.get(had_come + come, 0)
+def _come_and_left(behind, place, number):
+    """How many come at a tick in the row of the number, and the number among all that begin so.
+
+    Place is where among the ways behind the tick it stands if nobody comes; ahead of the first there are none.
+    """
+    come = max(0, -place)
+    while number >= behind[place + come]:
+        number -= behind[place + come]
         come += 1
     return come, number
 

@@ -1,8 +1,12 @@
-"""What a book and looks tell of one rank: how many were taken, and had come at least and at most."""
+"""What a book and looks tell of one rank: how many had come by each tick, at least and at most.
+
+Told is a pair of lists, with one thing a tick: as many as had come by then at least, and as many as at most, None
+where nothing tells it.
+"""
 
 from itertools import accumulate
 
-from hallback.turns import free_at_first, free_behind
+from hallback.turns import NOBODY
 
 
 def taken_by(book, rank):
@@ -10,36 +14,40 @@ def taken_by(book, rank):
     return list(accumulate([row.count(rank) for row in book]))
 
 
-def told_least(book, looks, rank):
-    """Of each tick as many of the rank as are told to have come by then at least."""
-    taken = taken_by(book, rank)
-    told = list(taken)
-    for tick, one, least, _ in looks:
-        if one == rank:
-            told[tick] = max(told[tick], taken[tick] + least)
-    return told
+def told_of(hall, turns, rank, behind, gone):
+    """What the turns tell of a rank of which so many had been taken ahead of them.
 
-
-def told_most(hall, book, looks, rank):
-    """Of -1 and of each tick of which it is told: as many of the rank as had come by then at most."""
-    taken = taken_by(book, rank)
-    written = [(tick, taken[tick] + most) for tick, one, _, most in looks if one == rank]
-    told = {-1: 0}
-    for tick, many in written + _nobody_left(hall, book, rank):
-        told[tick] = min(many, told.get(tick, many))
-    return told
-
-
-def _nobody_left(hall, book, rank):
-    """Pairs (tick, many): a free desk passed the rank over then, so no more had come than many."""
-    found = []
-    many = 0
-    free = free_at_first(hall)
-    for tick, row in enumerate(book):
-        for desk, at, one in zip(hall[1], free, row):
-            if at <= tick and rank in desk and (one is None or one > rank):
-                found.append((tick, many))
+    Behind are the ranks that go behind this one: who takes such passes it over, as who is free and takes nobody does.
+    """
+    over = {one: True for one in (NOBODY, *behind)}
+    own = [column for column, desk in zip(turns, hall[1]) if rank in desk]
+    rows = list(zip(*own)) if own else [() for _ in turns[0]]
+    least = []
+    most = []
+    for row in rows:
+        passed = None
+        for one in row:
             if one == rank:
-                many += 1
-        free = free_behind(hall, free, tick, row)
-    return found
+                gone += 1
+            elif one in over and passed is None:
+                passed = gone
+        least.append(gone)
+        most.append(passed)
+    return least, most
+
+
+def told_with(told, looks, rank):
+    """What is told of the rank by its turns and by the looks."""
+    taken = told[0]
+    least = list(taken)
+    most = list(told[1])
+    for tick, one, few, many in looks:
+        if one == rank:
+            least[tick] = max(least[tick], taken[tick] + few)
+            most[tick] = taken[tick] + many if most[tick] is None else min(most[tick], taken[tick] + many)
+    return least, most
+
+
+def ranks_behind(hall, rank):
+    """The ranks that go behind this one, as the hall has them."""
+    return tuple(range(rank + 1, len(hall[0])))

@@ -1,32 +1,32 @@
-"""The desks' turns: from which tick each one is free, and whom the free ones take."""
+"""Turns: what each desk does at each tick, as a book tells it."""
+
+from hallback.kinds import is_whole
+
+# A desk that is free and takes nobody passes over all ranks of its own, as if it took one behind them all.
+NOBODY = 4
+# A desk that isn't free passes over no rank, as if it took one ahead of them all.
+BUSY = -1
 
 
-def free_at_first(hall):
-    """Of each desk the tick from which it is free, as nobody has been taken yet."""
-    return [0 for _ in hall[1]]
+def turns_of(stays, desk, column):
+    """What the desk does at each tick: the rank that it takes, NOBODY or BUSY; None where the column can't be."""
+    turns = []
+    free = 0
+    for tick, one in enumerate(column):
+        if one is None:
+            turns.append(BUSY if tick < free else NOBODY)
+        elif tick < free or one not in desk or type(one) is not int and not is_whole(one):
+            return None
+        else:
+            turns.append(one)
+            free = tick + stays[one]
+    return turns
 
 
-def free_behind(hall, free, tick, row):
-    """Of each desk the tick from which it is free, once the desks took the row at the tick."""
-    ranks = hall[0]
-    return [at if rank is None else tick + ranks[rank][1] for at, rank in zip(free, row)]
-
-
-def first_waiting(desk, waiting):
-    """The first rank of the desk's own of which anybody waits, None where nobody does."""
-    for rank in desk:
-        if waiting[rank] > 0:
-            return rank
-    return None
-
-
-def row_taken(hall, free, tick, waiting):
-    """The row that the desks take at the tick, where so many of each rank wait ahead of it."""
-    left = list(waiting)
-    row = []
-    for desk, at in zip(hall[1], free):
-        rank = first_waiting(desk, left) if at <= tick else None
-        if rank is not None:
-            left[rank] -= 1
-        row.append(rank)
-    return tuple(row)
+def free_from(stays, column):
+    """The tick from which the desk is free, behind all of its column."""
+    free = 0
+    for tick, one in enumerate(column):
+        if one is not None:
+            free = tick + stays[one]
+    return free

@@ -4,7 +4,7 @@ Nothing of the package is used here, so that the answers are found twice by diff
 """
 
 from functools import lru_cache
-from itertools import product
+from itertools import permutations, product
 from random import Random
 
 
@@ -77,8 +77,9 @@ def are_looks(hall, book, thing):
 class Story:
     """Comings of a hall; of each rank at which tick each one came and was taken; the book; who waited when."""
 
-    def __init__(self, hall, comings):
+    def __init__(self, hall, comings, order=None):
         ranks, desks = hall
+        order = range(len(ranks)) if order is None else order
         self.comings = comings
         self.came = [[] for _ in ranks]
         self.gone = [[] for _ in ranks]
@@ -90,9 +91,9 @@ class Story:
                 self.came[rank] += [tick] * many
             took = [None] * len(desks)
             for desk, own in enumerate(desks):
-                for rank in range(len(ranks)):
+                for rank in order:
                     waits = len(self.came[rank]) > len(self.gone[rank])
-                    if still_there[desk] == 0 and rank in own and waits:
+                    if still_there[desk] == 0 and rank in own and waits and took[desk] is None:
                         took[desk] = rank
                         self.gone[rank].append(tick)
                         still_there[desk] = ranks[rank][1]
@@ -116,11 +117,11 @@ def rows_of_one_tick(hall):
 
 
 @lru_cache(maxsize=None)
-def books_had(hall, ticks):
+def books_had(hall, ticks, order=None):
     """Of each book that can be, all its stories."""
     found = {}
     for comings in product(rows_of_one_tick(hall), repeat=ticks):
-        story = Story(hall, comings)
+        story = Story(hall, comings, order)
         found.setdefault(story.book, []).append(story)
     return found
 
@@ -258,6 +259,93 @@ def best_look(hall, book, looks):
     return best
 
 
+def changed(book, tick, desk, one):
+    row = book[tick][:desk] + (one,) + book[tick][desk + 1:]
+    return book[:tick] + (row,) + book[tick + 1:]
+
+
+def mends(hall, book):
+    found = []
+    for tick, row in enumerate(book):
+        for desk, own in enumerate(hall[1]):
+            for one in (None,) + own:
+                other = changed(book, tick, desk, one)
+                if other != book and is_book(hall, other) and stories(hall, other, ()):
+                    found.append((tick, desk, one))
+    return found
+
+
+def with_stay(hall, rank, stay):
+    ranks, desks = hall
+    return ranks[:rank] + ((ranks[rank][0], stay),) + ranks[rank + 1:], desks
+
+
+def stays(hall, book, rank):
+    found = []
+    for stay in range(1, 11):
+        # All stays that last to the end of the book are told the same.
+        other = with_stay(hall, rank, min(stay, len(book)))
+        if is_book(other, book) and stories(other, book, ()):
+            found.append(stay)
+    return found
+
+
+def orders(hall, book):
+    found = []
+    for order in permutations(range(len(hall[0]))):
+        many = len(books_had(hall, len(book), order).get(book, []))
+        if many:
+            found.append((order, many))
+    return found
+
+
+def row_does(hall, book, rank, behind, row):
+    """Whether a row of comings of the rank does, where these ranks alone stand behind it."""
+    waits = 0
+    still_there = [0] * len(hall[1])
+    for come, taken_then in zip(row, book):
+        waits += come
+        for desk, own in enumerate(hall[1]):
+            one = taken_then[desk]
+            if one == rank:
+                if waits == 0:
+                    return False
+                waits -= 1
+            elif still_there[desk] == 0 and rank in own and (one is None or one in behind) and waits:
+                return False
+            if one is not None:
+                still_there[desk] = hall[0][one][1]
+        still_there = [max(0, ticks - 1) for ticks in still_there]
+    return True
+
+
+def must_be_ahead(hall, book):
+    if not orders(hall, book):
+        return None
+    found = []
+    for one, other in permutations(range(len(hall[0])), 2):
+        rows = product(range(hall[0][other][0] + 1), repeat=len(book))
+        if not any(row_does(hall, book, other, (one,), row) for row in rows):
+            found.append((one, other))
+    return found
+
+
+def put_first(hall, rank):
+    return (rank,) + tuple(other for other in range(len(hall[0])) if other != rank)
+
+
+def first_taken(hall, book, looks, rank, comer):
+    told = stories(hall, book, looks)
+    if not told:
+        return None
+    ticks = []
+    for story in told:
+        gone = Story(hall, story.comings, put_first(hall, rank)).gone[rank]
+        ticks.append(gone[comer - 1] if comer <= len(gone) else None)
+    earliest = min([tick for tick in ticks if tick is not None], default=None)
+    return (earliest, None if None in ticks else max(ticks))
+
+
 # Cases: small halls with books and looks
 
 
@@ -282,6 +370,21 @@ SMALL = (
     ((((1, 2), (1, 1), (1, 1)), ((0, 1, 2),)), 3),
     ((((1, 1), (1, 2), (1, 1), (1, 3)), ((0, 1, 2, 3), (1, 3))), 2),
     ((((1, 1), (1, 1), (1, 1), (1, 1)), ((0, 3), (1, 2), (0, 1, 2, 3))), 2),
+)
+
+
+# Halls in which all desks take all ranks, and all stay as long.
+ALIKE = (
+    ((((2, 1),), ((0,),)), 4),
+    ((((2, 2),), ((0,), (0,))), 4),
+    ((((5, 10),), ((0,), (0,), (0,))), 3),
+    ((((2, 1), (1, 1)), ((0, 1),)), 4),
+    ((((1, 2), (2, 2)), ((0, 1),)), 4),
+    ((((1, 2), (2, 2)), ((0, 1), (0, 1))), 4),
+    ((((2, 3), (2, 3)), ((0, 1), (0, 1), (0, 1))), 3),
+    ((((1, 1), (2, 1), (1, 1)), ((0, 1, 2),)), 3),
+    ((((1, 2), (1, 2), (1, 2)), ((0, 1, 2), (0, 1, 2))), 3),
+    ((((1, 1), (1, 1), (1, 1), (1, 1)), ((0, 1, 2, 3), (0, 1, 2, 3))), 2),
 )
 
 
@@ -313,11 +416,11 @@ def true_looks(hall, story, chance):
 
 
 @lru_cache(maxsize=None)
-def cases(many=24):
+def cases(many=24, halls=SMALL):
     """Triples (hall, book, looks) of small halls; of each hall so many books that can be, and any others."""
     chance = Random(1)
     found = []
-    for hall, most_ticks in SMALL:
+    for hall, most_ticks in halls:
         for ticks in (1, most_ticks):
             had = books_had(hall, ticks)
             for book in some(sorted(had, key=lambda book: [none_first(row) for row in book]), many, chance):
@@ -328,6 +431,36 @@ def cases(many=24):
                 found.append((hall, book, ()))
                 found.append((hall, book, some_looks(hall, book, chance)))
     return found
+
+
+# Long books of any halls
+
+
+def bent(hall, book, chance):
+    """The book with one taking changed, such that it is one of the hall still; the same if none can be."""
+    others = []
+    for tick in range(len(book)):
+        for desk, own in enumerate(hall[1]):
+            for one in (None,) + own:
+                others.append(changed(book, tick, desk, one))
+    others = [other for other in others if other != book and is_book(hall, other)]
+    return chance.choice(others) if others else book
+
+
+def some_hall(chance):
+    ranks = tuple((chance.randrange(1, 6), chance.randrange(1, 11)) for _ in range(chance.randrange(1, 5)))
+    desks = []
+    for _ in range(chance.randrange(1, 4)):
+        desks.append(tuple(sorted(chance.sample(range(len(ranks)), chance.randrange(1, len(ranks) + 1)))))
+    return ranks, tuple(desks)
+
+
+def some_comings(hall, ticks, chance):
+    many = chance.choice((2, 4, 8))
+    return tuple(
+        tuple(chance.randrange(most + 1) if chance.randrange(many) == 0 else 0 for most, _ in hall[0])
+        for _ in range(ticks)
+    )
 
 
 # Anything

@@ -1,4 +1,7 @@
-"""[2] and the interface: which argument is refused by which refusal, and in which order."""
+"""[2] and the interface: which argument is refused by which refusal, and in which order.
+
+Of NotAlike, which first_taken alone tells, test_first asks.
+"""
 
 import unittest
 
@@ -6,7 +9,9 @@ import slow
 from hallback import errors
 from hallback.comers import because, came, taken, waiting, waits
 from hallback.halls import are_looks, is_book
+from hallback.mends import mends, stays
 from hallback.nexts import best_look, nexts
+from hallback.orders import must_be_ahead, orders
 from hallback.rows import how_many, how_many_of, number_of, row_at
 from hallback.runs import is_story, run
 from hallback.stairs import bar, can_be, first_bar, is_bar, stairs
@@ -37,6 +42,10 @@ FUNCTIONS = (
     (because, ("hall", "book", "looks", "rank", "other")),
     (nexts, ("hall", "book", "looks")),
     (best_look, ("hall", "book", "looks")),
+    (mends, ("hall", "book")),
+    (stays, ("hall", "book", "rank")),
+    (orders, ("hall", "book")),
+    (must_be_ahead, ("hall", "book")),
 )
 
 GOOD = {
