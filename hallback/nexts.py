@@ -48,7 +48,7 @@ def _rows_next(hall, book):
     """Pairs: a row that the next tick can have, in order, and the ranks of which nobody is left then."""
     stays = [stay for _, stay in hall[0]]
     found = [((), ())]
-    for desk, column in zip(hall[1], zip(*book)):
+    for column, desk in zip(zip(*book), hall[1]):
         if free_from(stays, column) > len(book):
             found = [((*row, None), emptied) for row, emptied in found]
         else:

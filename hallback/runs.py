@@ -87,13 +87,13 @@ def _is_book_of(hall, comings, thing):
         for one in row:
             taken = None
             if free[at] <= tick:
-                for rank in desks[at]:
-                    if waiting[rank]:
-                        taken = rank
-                        waiting[rank] -= 1
-                        free[at] = tick + stays[rank]
+                for own in desks[at]:
+                    if waiting[own]:
+                        taken = own
+                        waiting[own] -= 1
+                        free[at] = tick + stays[own]
                         break
-            if one != taken or type(one) is not int and not (one is None or is_whole(one)):
+            if one != taken or type(one) is not int and one is not None and not is_whole(one):
                 return False
             at += 1
         tick += 1

@@ -1,6 +1,7 @@
 """[12] whom the desks can take next, [13] the look that would tell most."""
 
 import unittest
+from random import Random
 
 import slow
 from hallback.nexts import best_look, nexts
@@ -22,6 +23,18 @@ class Nexts(unittest.TestCase):
         # At tick 2 the desk is free. Of rank 0 one had come at tick 0, and waits for nothing, in one of 18 rows;
         # of rank 1 nobody had come in one of 8.
         self.assertEqual(nexts(HALL, BOOK[:2], ()), [((None,), 1), ((0,), 17 * 8), ((1,), 7)])
+
+    def test_who_waits_is_taken(self):
+        # Somebody of either rank waits: the desk takes the first, and can't take the second, nor nobody.
+        hall = (((2, 1), (2, 1)), ((0, 1),))
+        looks = ((0, 0, 1, 1), (0, 1, 1, 1))
+        self.assertEqual(how_many(hall, ((0,),), looks), 1)
+        self.assertEqual(nexts(hall, ((0,),), looks), [((0,), 9)])
+        hall = (((2, 1), (2, 1)), ((0, 1), (0, 1), (0, 1)))
+        for book in slow.some(slow.all_books(hall, 1), 30, Random(21)):
+            for least in (0, 1, 2):
+                looks = ((0, 0, least, least), (0, 1, least, least))
+                self.assertEqual(nexts(hall, book, looks), slow.nexts(hall, book, looks))
 
     def test_none_goes_ahead_of_numbers(self):
         hall = (((1, 1), (1, 1)), ((0, 1), (1,)))

@@ -5,7 +5,7 @@ from itertools import product
 from random import Random
 
 import slow
-from hallback.errors import NoComings
+from hallback.errors import NoBook, NoComings, NoLooks
 from hallback.halls import is_book
 from hallback.runs import is_story, run
 
@@ -150,6 +150,42 @@ class Stories(unittest.TestCase):
                     story = slow.Story(HALL, thing)
                     answer = story.book == BOOK and story.is_so(looks)
                 self.assertIs(is_story(HALL, BOOK, looks, thing), answer)
+
+    def test_what_is_no_book_is_refused_though_it_equals_that_of_the_comings(self):
+        for book in (
+            ((0,), (None,), (True,), (0,)), ((False,), (None,), (1,), (0,)), ((0,), (None,), (1,), (False,)),
+            [(0,), (None,), (1,), (0,)], ((0,), [None], (1,), (0,)), ((0,), (None,), (1,), (0, None)),
+        ):
+            for comings in (COMINGS, COMINGS[:3], None):
+                for looks in ((), None, ((3, 0, 0, 0),)):
+                    with self.assertRaises(NoBook):
+                        is_story(HALL, book, looks, comings)
+
+    def test_any_book_with_comings_that_may_be_its(self):
+        for book in slow.with_one_changed(BOOK):
+            if slow.is_book(HALL, book):
+                self.assertIs(is_story(HALL, book, (), COMINGS), book == BOOK)
+            else:
+                with self.assertRaises(NoBook):
+                    is_story(HALL, book, (), COMINGS)
+
+    def test_looks_are_refused_whatever_came(self):
+        for comings in (COMINGS, COMINGS[:3], ((0, 0),) * 4, None):
+            for looks in (None, [], ((4, 0, 0, 0),), ((0, 0, 0, 1), (0, 0, 0, 0)), ((0, 0, 0, True),)):
+                with self.assertRaises(NoLooks):
+                    is_story(HALL, BOOK, looks, comings)
+
+    def test_the_first_turn_that_is_another_one_and_the_last(self):
+        hall = (((2, 3), (2, 1)), ((0, 1), (1,)))
+        comings = ((0, 2),) + ((1, 0),) * 38 + ((2, 0),)
+        book = slow.Story(hall, comings).book
+        self.assertIs(is_story(hall, book, (), comings), True)
+        for tick in range(40):
+            for desk, own in enumerate(hall[1]):
+                for one in (None,) + own:
+                    other = slow.changed(book, tick, desk, one)
+                    if other != book and slow.is_book(hall, other):
+                        self.assertIs(is_story(hall, other, (), comings), False)
 
     def test_nothing_is_changed(self):
         thing = [[1, 1], [0, 0], [0, 1], [2, 0]]

@@ -242,6 +242,14 @@ class Bars(unittest.TestCase):
                 answer = answer and other in slow.bars(hall, book, ())
                 self.assertIs(is_bar(hall, book, (), other), answer)
 
+    def test_only_ranks_and_ticks_of_the_book(self):
+        hall = (((1, 10),), ((0,), (0,), (0,)))
+        book = ((0, 0, 0),) + ((None, None, None),) * 9
+        for rank, one, other in product(range(-3, 6), range(-3, 12), range(-3, 12)):
+            # By tick 0 three were taken, of which one a tick can come, and none had come ahead of it.
+            answer = rank == 0 and one == -1 and other in (0, 1)
+            self.assertIs(is_bar(hall, book, (), (rank, one, other)), answer)
+
     def test_truths_are_no_numbers(self):
         hall = (((1, 1), (1, 1)), ((0,), (1,), (1,)))
         book = ((None, 1, None), (None, 1, 1))

@@ -197,6 +197,21 @@ class Asked(unittest.TestCase):
                     told.append("changed")
                     self.assertEqual(ask(), kept)
 
+    def test_an_int_that_is_no_truth_is_a_whole_number(self):
+        class Number(int):
+            """An int of a class of its own, as bool is."""
+
+        def numbered(thing):
+            if isinstance(thing, tuple):
+                return tuple(numbered(part) for part in thing)
+            return None if thing is None else Number(thing)
+
+        for hall, book, looks in slow.cases(1):
+            other = [numbered(hall), numbered(book), numbered(looks)]
+            self.assertEqual(answers(*other), answers(hall, book, looks))
+            for story in slow.stories(hall, book, ()):
+                self.assertIs(is_story(*other, numbered(story.comings)), story.is_so(looks))
+
     def test_truths_are_told_as_truths(self):
         for hall, book, looks in slow.cases(1):
             for told in (is_hall(hall), is_book(hall, book), are_looks(hall, book, looks), can_be(hall, book, looks)):
