@@ -9,10 +9,10 @@ from hallback.told import taken_by
 
 def came(hall, book, looks, rank, comer):
     """The earliest and the latest tick at which the comer comes, None where no comings do."""
-    turns = need_written(hall, book, looks)
+    columns = need_written(hall, book, looks)
     need_rank(hall, rank)
     need_comer(comer)
-    steps = steps_of(hall, turns, looks, rank)
+    steps = steps_of(hall, columns, looks, rank)
     if steps is None:
         return None
     return first_tick([high for _, high in steps], comer), first_tick([low for low, _ in steps], comer)
@@ -29,9 +29,9 @@ def taken(hall, book, rank, comer):
 
 def waits(hall, book, looks, rank):
     """The least and the most ticks that all of the rank who were taken waited, None where no comings do."""
-    turns = need_written(hall, book, looks)
+    columns = need_written(hall, book, looks)
     need_rank(hall, rank)
-    steps = steps_of(hall, turns, looks, rank)
+    steps = steps_of(hall, columns, looks, rank)
     if steps is None:
         return None
     by = taken_by(book, rank)
@@ -42,19 +42,19 @@ def waits(hall, book, looks, rank):
 
 def waiting(hall, book, looks, rank, tick):
     """How many of the rank wait behind the tick's takings, at least and at most, None where no comings do."""
-    turns = need_written(hall, book, looks)
+    columns = need_written(hall, book, looks)
     need_rank(hall, rank)
     need_tick(book, tick)
-    steps = steps_of(hall, turns, looks, rank)
+    steps = steps_of(hall, columns, looks, rank)
     return None if steps is None else _left(steps, book, rank)[tick]
 
 
 def because(hall, book, looks, rank, other):
     """How many of the rank wait behind each taking of the other, added up, None where no comings do."""
-    turns = need_written(hall, book, looks)
+    columns = need_written(hall, book, looks)
     need_rank(hall, rank)
     need_rank(hall, other)
-    steps = steps_of(hall, turns, looks, rank)
+    steps = steps_of(hall, columns, looks, rank)
     if steps is None:
         return None
     left = _left(steps, book, rank)

@@ -1,8 +1,8 @@
 """Halls, books and looks: what is one, and the refusal of what is none."""
 
 from hallback.errors import NoBook, NoHall, NoLooks, NoRank, NoTick
-from hallback.kinds import are_rows, are_whole, is_from_to, is_rising, is_tuple
-from hallback.turns import turns_of
+from hallback.kinds import are_rows, are_whole, is_from_to, is_rising, is_tuple, is_whole
+from hallback.turns import all_stays, is_column
 
 RANKS_AT_MOST = 4
 COME_AT_MOST = 5
@@ -24,7 +24,7 @@ def is_hall(thing):
 def is_book(hall, thing):
     """Whether this is a book of the hall."""
     need_hall(hall)
-    return all_turns(hall, thing) is not None
+    return columns_of(hall, thing) is not None
 
 
 def are_looks(hall, book, thing):
@@ -34,19 +34,17 @@ def are_looks(hall, book, thing):
     return _are_looks_of(hall, book, thing)
 
 
-def all_turns(hall, thing):
-    """Of each desk its turns, as the book tells them; None where this is no book of the hall."""
-    ranks, desks = hall
+def columns_of(hall, thing):
+    """Of each desk whom it took at each tick, or None; None in place of all where this is no book of the hall."""
+    desks = hall[1]
     if not are_rows(thing, TICKS_AT_MOST, len(desks)):
         return None
-    stays = [stay for _, stay in ranks]
-    found = []
-    for column, desk in zip(zip(*thing), desks):
-        turns = turns_of(stays, desk, column)
-        if turns is None:
+    stays = all_stays(hall)
+    columns = list(zip(*thing))
+    for column, desk in zip(columns, desks):
+        if not is_column(stays, desk, column):
             return None
-        found.append(turns)
-    return found
+    return columns
 
 
 def need_hall(thing):
@@ -56,11 +54,11 @@ def need_hall(thing):
 
 
 def need_book(hall, thing):
-    """Refuse what is no book of the hall; of a book tell all turns."""
-    turns = all_turns(hall, thing)
-    if turns is None:
+    """Refuse what is no book of the hall; of a book tell its columns."""
+    columns = columns_of(hall, thing)
+    if columns is None:
         raise NoBook("this is no book of the hall")
-    return turns
+    return columns
 
 
 def need_looks(hall, book, thing):
@@ -70,11 +68,11 @@ def need_looks(hall, book, thing):
 
 
 def need_written(hall, book, looks):
-    """Refuse what is no hall, no book of it or no looks of this, the first of them first; tell all turns."""
+    """Refuse what is no hall, no book of it or no looks of this, the first of them first; tell the book's columns."""
     need_hall(hall)
-    turns = need_book(hall, book)
+    columns = need_book(hall, book)
     need_looks(hall, book, looks)
-    return turns
+    return columns
 
 
 def need_rank(hall, thing):
@@ -90,11 +88,13 @@ def need_tick(book, thing):
 
 
 def _are_ranks(thing):
-    if not are_rows(thing, RANKS_AT_MOST, 2):
+    if not is_tuple(thing, 1, RANKS_AT_MOST):
         return False
     for pair in thing:
+        if not isinstance(pair, tuple) or len(pair) != 2 or not are_whole(pair):
+            return False
         most, stay = pair
-        if not are_whole(pair) or not 1 <= most <= COME_AT_MOST or not 1 <= stay <= STAY_AT_MOST:
+        if not 1 <= most <= COME_AT_MOST or not 1 <= stay <= STAY_AT_MOST:
             return False
     return True
 
@@ -103,13 +103,13 @@ def _are_desks(thing, ranks):
     if not is_tuple(thing, 1, DESKS_AT_MOST):
         return False
     for desk in thing:
-        if not is_tuple(desk, 1, ranks) or not are_whole(desk):
+        if not isinstance(desk, tuple) or not desk:
             return False
-        last = -1
+        low = 0
         for rank in desk:
-            if not last < rank < ranks:
+            if type(rank) is not int and not is_whole(rank) or not low <= rank < ranks:
                 return False
-            last = rank
+            low = rank + 1
     return True
 
 

@@ -1,7 +1,7 @@
 """Kept: a hall told tick by tick."""
 
 from hallback.errors import CantBe, NoLooks, NoRow, NothingLeft
-from hallback.halls import all_turns, are_looks, need_hall, need_rank
+from hallback.halls import are_looks, columns_of, need_hall, need_rank
 from hallback.steps import all_steps, all_up, steps_of
 from hallback.told import taken_by
 from hallback.ways import all_comings
@@ -21,10 +21,9 @@ class Kept:
     def tick(self, row):
         """A tick goes by with the row of takings."""
         rows = (*self._rows, row)
-        turns = all_turns(self._hall, rows)
-        if turns is None:
+        if columns_of(self._hall, rows) is None:
             raise NoRow("this makes no book with the ticks so far")
-        self._do(rows, turns, self._written)
+        self._do(rows, self._written)
 
     def look(self, look):
         """The look is written."""
@@ -33,7 +32,7 @@ class Kept:
         written = tuple(sorted([*self._written, look]))
         if not are_looks(self._hall, self._rows, written):
             raise NoLooks("this look is written, or one too many")
-        self._do(self._rows, all_turns(self._hall, self._rows), written)
+        self._do(self._rows, written)
 
     def back(self):
         """What was done last is taken back."""
@@ -53,22 +52,20 @@ class Kept:
         """How many comings do; of no ticks there is one."""
         if not self._rows:
             return 1
-        turns = all_turns(self._hall, self._rows)
-        return all_comings(self._hall, all_steps(self._hall, turns, self._written))
+        return all_comings(self._hall, all_steps(self._hall, _columns(self._rows), self._written))
 
     def waiting(self, rank):
         """How many of the rank wait behind the last tick, at least and at most."""
         need_rank(self._hall, rank)
         if not self._rows:
             return 0, 0
-        turns = all_turns(self._hall, self._rows)
-        low, high = steps_of(self._hall, turns, self._written, rank)[-1]
+        low, high = steps_of(self._hall, _columns(self._rows), self._written, rank)[-1]
         gone = taken_by(self._rows, rank)[-1]
         return low - gone, high - gone
 
-    def _do(self, rows, turns, written):
+    def _do(self, rows, written):
         """Go on with such ticks and looks, if some comings do."""
-        if all_up(self._hall, turns, written) is None:
+        if all_up(self._hall, _columns(rows), written) is None:
             raise CantBe("no comings would do")
         self._before.append((self._rows, self._written))
         self._rows = rows
@@ -84,3 +81,8 @@ class Kept:
             and self._rows == other._rows
             and self._written == other._written
         )
+
+
+def _columns(rows):
+    """Of each desk whom it took at each tick, or None."""
+    return list(zip(*rows))

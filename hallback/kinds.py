@@ -9,7 +9,7 @@ def is_whole(thing):
 def are_whole(things):
     """Whether all things are whole numbers."""
     for thing in things:
-        # Nearly all are plain ints, which this asks soonest.
+        # Nearly all are plain ints, which is asked sooner.
         if type(thing) is not int and not is_whole(thing):
             return False
     return True
@@ -34,4 +34,7 @@ def are_rows(thing, most, wide):
 
 def is_rising(things):
     """Whether each thing is ahead of the next one; they must be such as can be compared."""
-    return all([one < other for one, other in zip(things, things[1:])])
+    for one, other in zip(things, things[1:]):
+        if not one < other:
+            return False
+    return True

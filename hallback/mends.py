@@ -1,15 +1,15 @@
 """Mends: what may have been written falsely, and the stays that a book can have."""
 
-from hallback.halls import STAY_AT_MOST, all_turns, need_book, need_hall, need_rank
+from hallback.halls import STAY_AT_MOST, columns_of, need_book, need_hall, need_rank
 from hallback.steps import all_up, is_barred, rank_up, steps_up
 from hallback.told import ranks_behind, told_of
-from hallback.turns import BUSY, turns_of
+from hallback.turns import BUSY, all_stays, all_turns, is_column, turns_of
 
 
 def mends(hall, book):
     """All triples (tick, desk, one), in order, with which, in the place of what is written, some comings do."""
     need_hall(hall)
-    turns = need_book(hall, book)
+    turns = all_turns(hall, need_book(hall, book))
     every = [rank_up(hall, turns, (), rank) for rank in range(len(hall[0]))]
     found = []
     # Steps end at the first tick that bars them: nothing that is written behind it mends that.
@@ -50,7 +50,9 @@ def _with_first(hall, desk, turns, one):
     """The turns of the desk with another one in the place of the first, None where they can't be."""
     column = [turn if turn in desk else None for turn in turns]
     column[0] = one
-    return turns_of([stay for _, stay in hall[0]], desk, column)
+    if not is_column(all_stays(hall), desk, column):
+        return None
+    return turns_of(all_stays(hall), column)
 
 
 def _up_from(hall, turns, steps, tick, rank):
@@ -62,5 +64,5 @@ def _up_from(hall, turns, steps, tick, rank):
 def _can_stay(hall, book, rank, stay):
     ranks, desks = hall
     others = (*ranks[:rank], (ranks[rank][0], stay), *ranks[rank + 1:])
-    turns = all_turns((others, desks), book)
-    return turns is not None and all_up((others, desks), turns, ()) is not None
+    columns = columns_of((others, desks), book)
+    return columns is not None and all_up((others, desks), columns, ()) is not None

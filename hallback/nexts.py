@@ -3,19 +3,19 @@
 from hallback.halls import need_written
 from hallback.steps import all_steps
 from hallback.told import taken_by
-from hallback.turns import free_from
+from hallback.turns import all_stays, free_from
 from hallback.ways import ways_on, ways_to, ways_within
 
 
 def nexts(hall, book, looks):
     """All rows that the next tick can have, in order, each with how many comings lead to it."""
-    turns = need_written(hall, book, looks)
-    every = all_steps(hall, turns, looks)
+    columns = need_written(hall, book, looks)
+    every = all_steps(hall, columns, looks)
     if every is None:
         return []
     waiting = [_waiting_next(hall, book, rank, steps) for rank, steps in enumerate(every)]
     found = []
-    for row, emptied in _rows_next(hall, book):
+    for row, emptied in _rows_next(hall, columns):
         many = 1
         for rank, (just, more) in enumerate(waiting):
             taken = row.count(rank)
@@ -27,8 +27,8 @@ def nexts(hall, book, looks):
 
 def best_look(hall, book, looks):
     """The look by whose worst answer the fewest comings are left, and how many; None where none or one do."""
-    turns = need_written(hall, book, looks)
-    every = all_steps(hall, turns, looks)
+    columns = need_written(hall, book, looks)
+    every = all_steps(hall, columns, looks)
     if every is None:
         return None
     answers = [_worst_answers(steps, most) for steps, (most, _) in zip(every, hall[0])]
@@ -44,12 +44,12 @@ def best_look(hall, book, looks):
     return tick, rank, fewest
 
 
-def _rows_next(hall, book):
+def _rows_next(hall, columns):
     """Pairs: a row that the next tick can have, in order, and the ranks of which nobody is left then."""
-    stays = [stay for _, stay in hall[0]]
+    stays = all_stays(hall)
     found = [((), ())]
-    for column, desk in zip(zip(*book), hall[1]):
-        if free_from(stays, column) > len(book):
+    for column, desk in zip(columns, hall[1]):
+        if free_from(stays, column) > len(column):
             found = [((*row, None), emptied) for row, emptied in found]
         else:
             found = [longer for row, emptied in found for longer in _with_turn(row, emptied, desk)]

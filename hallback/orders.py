@@ -5,13 +5,14 @@ from itertools import permutations
 from hallback.halls import need_book, need_hall
 from hallback.steps import is_barred, steps_down, steps_up
 from hallback.told import told_of
+from hallback.turns import all_turns
 from hallback.ways import all_ways
 
 
 def orders(hall, book):
     """All orders by which some comings do, in order, each with how many."""
     need_hall(hall)
-    turns = need_book(hall, book)
+    turns = all_turns(hall, need_book(hall, book))
     # How many of a rank come hangs only on which ranks are behind it, not on their order.
     known = {}
     found = []
@@ -29,7 +30,7 @@ def orders(hall, book):
 def must_be_ahead(hall, book):
     """All pairs (one, other), rising, such that other can't stand ahead of one; None where no order does."""
     need_hall(hall)
-    turns = need_book(hall, book)
+    turns = all_turns(hall, need_book(hall, book))
     pairs = _pairs(hall, turns)
     return pairs if _orders_with(hall, pairs) else None
 

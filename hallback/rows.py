@@ -9,24 +9,24 @@ from hallback.ways import all_comings, all_ways, ways_on
 
 def how_many(hall, book, looks):
     """How many comings do."""
-    turns = need_written(hall, book, looks)
-    every = all_steps(hall, turns, looks)
+    columns = need_written(hall, book, looks)
+    every = all_steps(hall, columns, looks)
     return 0 if every is None else all_comings(hall, every)
 
 
 def how_many_of(hall, book, looks, rank):
     """How many rows of comings of the rank are had in comings that do."""
-    turns = need_written(hall, book, looks)
+    columns = need_written(hall, book, looks)
     need_rank(hall, rank)
-    steps = steps_of(hall, turns, looks, rank)
+    steps = steps_of(hall, columns, looks, rank)
     return 0 if steps is None else all_ways(steps, hall[0][rank][0])
 
 
 def row_at(hall, book, looks, rank, number):
     """The row of the number."""
-    turns = need_written(hall, book, looks)
+    columns = need_written(hall, book, looks)
     need_rank(hall, rank)
-    steps = steps_of(hall, turns, looks, rank)
+    steps = steps_of(hall, columns, looks, rank)
     ways = [[]] if steps is None else ways_on(steps, hall[0][rank][0])
     if not is_from_to(number, 0, sum(ways[0]) - 1):
         raise NoNumber("this is no number of a row that is had")
@@ -42,9 +42,9 @@ def row_at(hall, book, looks, rank, number):
 
 def number_of(hall, book, looks, rank, row):
     """The number of the row."""
-    turns = need_written(hall, book, looks)
+    columns = need_written(hall, book, looks)
     need_rank(hall, rank)
-    steps = steps_of(hall, turns, looks, rank)
+    steps = steps_of(hall, columns, looks, rank)
     most = hall[0][rank][0]
     if steps is None or not _is_had(steps, most, row):
         raise NoComings("this is no row of the rank that is had")

@@ -3,6 +3,7 @@
 from hallback.errors import NoComings
 from hallback.halls import TICKS_AT_MOST, need_book, need_hall, need_looks
 from hallback.kinds import are_rows, is_whole
+from hallback.turns import all_stays
 
 
 def run(hall, comings):
@@ -30,7 +31,7 @@ def _are_comings(hall, thing):
         return False
     for column, (most, _) in zip(zip(*thing), ranks):
         for many in column:
-            # Nearly all are plain ints, which this asks soonest.
+            # Nearly all are plain ints, which is asked sooner.
             if type(many) is not int and not is_whole(many) or not 0 <= many <= most:
                 return False
     return True
@@ -72,7 +73,7 @@ def _is_book_of(hall, comings, thing):
     ranks, desks = hall
     if not are_rows(thing, len(comings), len(desks)) or len(thing) < len(comings):
         return False
-    stays = [stay for _, stay in ranks]
+    stays = all_stays(hall)
     waiting = [0 for _ in ranks]
     free = [0 for _ in desks]
     tick = 0

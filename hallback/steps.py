@@ -1,6 +1,7 @@
 """Steps: of each tick how many of a rank had come by then, at least and at most, as a pair."""
 
 from hallback.told import ranks_behind, told_of, told_with
+from hallback.turns import all_turns
 
 
 def steps_up(told, most, low, high):
@@ -46,8 +47,9 @@ def rank_up(hall, turns, looks, rank):
     return steps_up(told_with(told, looks, rank) if looks else told, hall[0][rank][0], 0, 0)
 
 
-def all_up(hall, turns, looks):
+def all_up(hall, columns, looks):
     """The steps up of each rank, None where some are barred."""
+    turns = all_turns(hall, columns)
     found = []
     for rank in range(len(hall[0])):
         steps = rank_up(hall, turns, looks, rank)
@@ -57,13 +59,13 @@ def all_up(hall, turns, looks):
     return found
 
 
-def all_steps(hall, turns, looks):
+def all_steps(hall, columns, looks):
     """The steps of each rank, None where no comings do."""
-    every = all_up(hall, turns, looks)
+    every = all_up(hall, columns, looks)
     return None if every is None else [steps_down(steps, most) for steps, (most, _) in zip(every, hall[0])]
 
 
-def steps_of(hall, turns, looks, rank):
+def steps_of(hall, columns, looks, rank):
     """The steps of the rank, None where no comings do."""
-    every = all_up(hall, turns, looks)
+    every = all_up(hall, columns, looks)
     return None if every is None else steps_down(every[rank], hall[0][rank][0])
